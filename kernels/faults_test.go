@@ -13,7 +13,8 @@ func text(s string) string { return strings.ReplaceAll(s, "/", "\n") }
 
 func many(s string, n int) string { return strings.Repeat(s, n) }
 
-// wantFault asks for the answer of every way; OK is a fault of none.
+// wantFault asks for the answer of every way, and of Source; OK is a fault of
+// none.
 func wantFault(t *testing.T, s string, fault api.Errno, line int) {
 	t.Helper()
 	for way := range api.Ways {
@@ -21,6 +22,10 @@ func wantFault(t *testing.T, s string, fault api.Errno, line int) {
 		if e != fault || at != line || (a == "") != (fault != api.OK) {
 			t.Errorf("P3: Compile(%.300q, %d) = %q, %d, line %d, want %d, line %d", s, way, a, e, at, fault, line)
 		}
+	}
+	o, clash, e, at := kernels.Source(text(s))
+	if e != fault || at != line || (o == nil) != (fault != api.OK) || (clash && fault != api.OK) {
+		t.Errorf("P7: Source(%.300q) = %v, %v, %d, line %d, want %d, line %d", s, o, clash, e, at, fault, line)
 	}
 }
 

@@ -5,6 +5,7 @@ import (
 	"kernels/api"
 	"kernels/asm"
 	"kernels/parse"
+	"kernels/source"
 )
 
 // Compile makes instructions of a kernel (P8 to P10).
@@ -20,7 +21,14 @@ func Compile(s string, way int) (string, api.Errno, int) {
 }
 
 // Source tells what may come out of a kernel (P7).
-func Source(s string) ([][]int, bool, api.Errno, int) { return nil, false, api.OK, 0 }
+func Source(s string) ([][]int, bool, api.Errno, int) {
+	p, fault, line := parse.Kernel(s)
+	if fault != api.OK {
+		return nil, false, fault, line
+	}
+	outcomes, clash := source.Outcomes(p)
+	return outcomes, clash, api.OK, 0
+}
 
 // Target tells what may come out of instructions (P11, P12).
 func Target(s string) ([][]int, bool, api.Errno, int) { return nil, false, api.OK, 0 }

@@ -150,6 +150,12 @@ func TestAgainstASecondReading(t *testing.T) {
 		if e != e2 || at != at2 || (a == "") != (e != api.OK) {
 			t.Fatalf("P3: Compile(%q, %d) = %q, %d, line %d, want %d, line %d", s, way, a, e2, at2, e, at)
 		}
+		if e == api.OK {
+			continue
+		}
+		if o, clash, e2, at2 := kernels.Source(s); o != nil || clash || e != e2 || at != at2 {
+			t.Fatalf("P7: Source(%q) = %v, %v, %d, line %d, want %d, line %d", s, o, clash, e2, at2, e, at)
+		}
 	}
 	for _, e := range []api.Errno{api.OK, api.ErrSyntax, api.ErrBarrier, api.ErrLimit} {
 		if met[e] < 100 {

@@ -1,0 +1,77 @@
+// Package source: what may come out of a kernel by the rules of the source.
+package source
+
+import (
+	"kernels/api"
+	"kernels/play"
+	"kernels/prog"
+	"kernels/rel"
+	"kernels/relate"
+)
+
+// answer is what was found so far.
+type answer struct {
+	outcomes play.Outcomes
+	clash    bool
+}
+
+// Outcomes are the outcomes of all candidates that may be, each once, rising,
+// and whether there is a clash in one of these candidates.
+func Outcomes(p prog.Program) ([][]int, bool) {
+	var found answer
+	worlds := play.WorldsOf(p)
+	for worlds.Next() {
+		world := worlds.World()
+		found.world(world)
+	}
+	return found.outcomes.Rows(), found.clash
+}
+
+// world goes through the candidates that have these events.
+func (found *answer) world(w play.World) {
+	facts := relate.FactsOf(w.Events)
+	fences := scFences(facts)
+	readings := w.Readings()
+	for readings.Next() {
+		reads := facts.Reads(readings.Reads())
+		if facts.HangsOnItself(reads) {
+			continue
+		}
+		before := beforeOf(facts, reads)
+		found.orders(w, candidate{facts: facts, fences: fences, reads: reads, before: before})
+	}
+}
+
+// orders goes through the orders of writes; what a clash is does not hang on
+// them.
+func (found *answer) orders(w play.World, c candidate) {
+	orders := w.WriteOrders()
+	for orders.Next() {
+		places := orders.Places()
+		if !c.mayBe(places) {
+			continue
+		}
+		outcome := w.Outcome(places)
+		found.outcomes.Add(outcome)
+		if !found.clash {
+			found.clash = c.facts.Clashes(c.before)
+		}
+	}
+}
+
+// scFences leads from each sc fence to those that are strong to it.
+func scFences(facts relate.Facts) rel.Relation {
+	fences := rel.New(len(facts.Events))
+	for i, a := range facts.Events {
+		for k, b := range facts.Events {
+			if isSC(a) && isSC(b) && facts.Strong.Has(i, k) {
+				fences.Add(i, k)
+			}
+		}
+	}
+	return fences
+}
+
+func isSC(e play.Event) bool {
+	return e.Kind == play.Fence && e.Order == api.SC
+}
