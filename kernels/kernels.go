@@ -6,6 +6,7 @@ import (
 	"kernels/asm"
 	"kernels/parse"
 	"kernels/source"
+	"kernels/ways"
 )
 
 // Compile makes instructions of a kernel (P8 to P10).
@@ -16,6 +17,12 @@ func Compile(s string, way int) (string, api.Errno, int) {
 	p, fault, line := parse.Kernel(s)
 	if fault != api.OK {
 		return "", fault, line
+	}
+	if way&api.Opt != 0 {
+		p = ways.Trimmed(p)
+	}
+	if way&api.Fences != 0 {
+		p = ways.Fenced(p)
 	}
 	return asm.Write(p), api.OK, 0
 }

@@ -78,3 +78,24 @@ func Reads(kind int) bool {
 func Writes(kind int) bool {
 	return kind == Store || kind == Add || kind == Swap
 }
+
+// IsAccess tells whether statements of this kind are of a variable.
+func IsAccess(kind int) bool {
+	return kind == Load || kind == Store || kind == Add || kind == Swap
+}
+
+// Reaches tells whether the statement is a load, store or step of the
+// variable.
+func (st Stmt) Reaches(v int) bool {
+	return IsAccess(st.Kind) && st.Var == v
+}
+
+// Acquires tells whether what is of this order may be told something.
+func Acquires(order int) bool {
+	return order == api.Acquire || order == api.AcqRel
+}
+
+// Releases tells whether what is of this order may tell something.
+func Releases(order int) bool {
+	return order == api.Release || order == api.AcqRel
+}

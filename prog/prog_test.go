@@ -36,6 +36,27 @@ func TestAllows(t *testing.T) {
 	}
 }
 
+func TestWhatReaches(t *testing.T) {
+	for kind := Load; kind <= End; kind++ {
+		if IsAccess(kind) != (kind <= Swap) || IsAccess(kind) != (Reads(kind) || Writes(kind)) {
+			t.Errorf("P2: kind %d", kind)
+		}
+		for v := range api.Vars {
+			if (Stmt{Kind: kind, Var: 1}).Reaches(v) != (kind <= Swap && v == 1) {
+				t.Errorf("P9: kind %d, variable %d", kind, v)
+			}
+		}
+	}
+}
+
+func TestAcquiresAndReleases(t *testing.T) {
+	for order := api.Weak; order <= api.SC; order++ {
+		if Acquires(order) != (order == api.Acquire || order == api.AcqRel) || Releases(order) != (order == api.Release || order == api.AcqRel) {
+			t.Errorf("P5: order %d", order)
+		}
+	}
+}
+
 func TestInnerBarrier(t *testing.T) {
 	for _, c := range []struct {
 		p    Program

@@ -5,6 +5,7 @@ package relate
 import (
 	"kernels/api"
 	"kernels/play"
+	"kernels/prog"
 	"kernels/rel"
 )
 
@@ -98,10 +99,10 @@ func gather(a play.Event, b play.Event) bool {
 
 // releases tells whether a write tells by itself.
 func releases(e play.Event) bool {
-	return e.Kind == play.Write && (e.Order == api.Release || e.Order == api.AcqRel)
+	return e.Kind == play.Write && prog.Releases(e.Order)
 }
 
 // acquires tells whether a read is told by itself.
 func acquires(e play.Event) bool {
-	return e.Kind == play.Read && (e.Order == api.Acquire || e.Order == api.AcqRel)
+	return e.Kind == play.Read && prog.Acquires(e.Order)
 }
