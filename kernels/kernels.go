@@ -6,6 +6,7 @@ import (
 	"kernels/asm"
 	"kernels/parse"
 	"kernels/source"
+	"kernels/target"
 	"kernels/ways"
 )
 
@@ -38,4 +39,11 @@ func Source(s string) ([][]int, bool, api.Errno, int) {
 }
 
 // Target tells what may come out of instructions (P11, P12).
-func Target(s string) ([][]int, bool, api.Errno, int) { return nil, false, api.OK, 0 }
+func Target(s string) ([][]int, bool, api.Errno, int) {
+	p, fault, line := asm.Read(s)
+	if fault != api.OK {
+		return nil, false, fault, line
+	}
+	outcomes, clash := target.Outcomes(p)
+	return outcomes, clash, api.OK, 0
+}

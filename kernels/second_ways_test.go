@@ -223,10 +223,15 @@ func kernelSecond(s string, way int) []string {
 // compileSecond is what Compile should answer of a text without a fault; known
 // are the instructions of all statements but ifs.
 func compileSecond(s string, way int, known map[string]string) string {
+	return instructionsOf(kernelSecond(s, way), known)
+}
+
+// instructionsOf are the instructions of lines in the words of kernels.
+func instructionsOf(lines []string, known map[string]string) string {
 	text := ""
 	ifs := 0
 	var open []int
-	for _, l := range kernelSecond(s, way) {
+	for _, l := range lines {
 		switch {
 		case strings.HasPrefix(l, "thread "):
 			text += "." + l + "\n"

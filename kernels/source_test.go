@@ -66,9 +66,10 @@ func crossing(between string) string {
 	return "thread 0/store x 1 rlx d/" + between + "r0 = load y rlx d/thread 1/store y 1 rlx d/" + between + "r0 = load x rlx d/"
 }
 
-func TestExamplesOfSource(t *testing.T) {
+// examples are those of the document that ask what may come out.
+func examples() []want {
 	f := "fence acqrel d/"
-	asksOfSource(t, "Examples", []want{
+	return []want{
 		{"two stores, two loads", message("", ""), stale, true, false},
 		{"with two fences", message(f, f), stale, false, false},
 		{"with the first fence", message(f, ""), stale, true, false},
@@ -85,7 +86,11 @@ func TestExamplesOfSource(t *testing.T) {
 		{"barriers of two blocks", "thread 0/store x 1 weak/barrier/thread 1/barrier/r0 = load x weak/", []int{1, 0, 0}, true, true},
 		{"release, acquire", "thread 0/store x 1 weak/store y 1 release d/thread 1/r0 = load y acquire d/if r0/r1 = load x weak/end/", stale, false, false},
 		{"release of scope block", "thread 0/store x 1 weak/store y 1 release b/thread 1/r0 = load y acquire d/if r0/r1 = load x weak/end/", stale, true, true},
-	})
+	}
+}
+
+func TestExamplesOfSource(t *testing.T) {
+	asksOfSource(t, "Examples", examples())
 	o, clash, e, line := kernels.Source(long("thread 0/store x 1 weak/r0 = load x weak/"))
 	if !reflect.DeepEqual(o, [][]int{{1, 0, 0, 0, 1, 0, 0}}) || clash || e != api.OK || line != 0 {
 		t.Errorf("Examples: %v, %v, %d, %d", o, clash, e, line)

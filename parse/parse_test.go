@@ -55,16 +55,3 @@ func TestNothingIsReadWithAFault(t *testing.T) {
 		}
 	}
 }
-
-func TestSplit(t *testing.T) {
-	for _, c := range []struct {
-		s    string
-		want []string
-	}{
-		{"", []string{""}}, {" ", []string{"", ""}}, {"a", []string{"a"}}, {"a b", []string{"a", "b"}}, {"a  b ", []string{"a", "", "b", ""}}, {" a", []string{"", "a"}}, {"a\tb", []string{"a\tb"}},
-	} {
-		if words := split(c.s); !reflect.DeepEqual(words, c.want) {
-			t.Errorf("split(%q) = %q", c.s, words)
-		}
-	}
-}

@@ -5,20 +5,6 @@ import (
 	"kernels/prog"
 )
 
-// split cuts a line at each blank. A blank too many leaves an empty word,
-// which is a word of nothing below.
-func split(line string) []string {
-	var words []string
-	from := 0
-	for i := 0; i < len(line); i++ {
-		if line[i] == ' ' {
-			words = append(words, line[from:i])
-			from = i + 1
-		}
-	}
-	return append(words, line[from:])
-}
-
 // digit reads one digit below n.
 func digit(c byte, n int) (int, bool) {
 	d := int(c) - '0'

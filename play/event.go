@@ -34,6 +34,11 @@ type Event struct {
 	Hangs  rel.Set // the reads that it hangs on
 }
 
+// IsSC tells whether the event is an sc fence.
+func (e Event) IsSC() bool {
+	return e.Kind == Fence && e.Order == api.SC
+}
+
 // firstWrites are numbered as the variables are.
 func firstWrites() []Event {
 	events := make([]Event, api.Vars)

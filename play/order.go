@@ -20,6 +20,18 @@ func (w World) WriteOrders() Orders {
 	return w.orders(rows)
 }
 
+// FenceOrders are the orders of all sc fences, in one row.
+func (w World) FenceOrders() Orders {
+	rows := make([]int, len(w.Events))
+	for i, e := range w.Events {
+		rows[i] = None
+		if e.IsSC() {
+			rows[i] = 0
+		}
+	}
+	return w.orders(rows)
+}
+
 // orders lets each event be put anywhere among those of its row that were put
 // ahead of it, but not ahead of a first write: so every order comes once.
 func (w World) orders(rows []int) Orders {

@@ -252,6 +252,33 @@ func TestWriteOrders(t *testing.T) {
 	}
 }
 
+func TestFenceOrders(t *testing.T) {
+	sc := Event{Kind: Fence, Order: api.SC}
+	far := Event{Kind: Fence, Thread: 1, Order: api.SC, Scope: api.Device}
+	w := World{Events: append(firstWrites(), sc, Event{Kind: Write, Order: api.SC}, sc, Event{Kind: Fence, Order: api.AcqRel}, far)}
+	met := map[[3]int]int{}
+	o := w.FenceOrders()
+	for o.Next() {
+		p := o.Places()
+		if p[0] != None || p[1] != None || p[2] != None || p[4] != None || p[6] != None {
+			t.Fatalf("P4: places %v", p)
+		}
+		met[[3]int{p[3], p[5], p[7]}]++
+	}
+	for _, p := range [][3]int{{0, 1, 2}, {0, 2, 1}, {1, 0, 2}, {1, 2, 0}, {2, 0, 1}, {2, 1, 0}} {
+		if met[p] != 1 {
+			t.Errorf("P4: order %v comes %d times", p, met[p])
+		}
+	}
+	if len(met) != 6 {
+		t.Errorf("P4: %d orders", len(met))
+	}
+	w.Events = firstWrites()
+	if o = w.FenceOrders(); !o.Next() || o.Next() {
+		t.Error("P4: no fences have just one order")
+	}
+}
+
 func TestOutcome(t *testing.T) {
 	w := World{Regs: []int{1, 2, 3, 0}, Events: append(firstWrites(), Event{Kind: Write, Value: 1}, Event{Kind: Write, Value: 2}, Event{Kind: Read, Value: 3}, Event{Kind: Write, Var: 2, Value: 3})}
 	for _, c := range []struct{ places, want []int }{

@@ -77,3 +77,20 @@ func (p Program) OverLimit() bool {
 	}
 	return reads > api.MaxReads || writes > api.MaxWrites || fences > api.MaxSC
 }
+
+// OverEvents tells whether the fences of all threads, and twice the barriers,
+// are more than may be.
+func (p Program) OverEvents() bool {
+	n := 0
+	for _, t := range p.Threads {
+		for _, st := range t.Stmts {
+			switch st.Kind {
+			case Fence:
+				n++
+			case Barrier:
+				n += 2
+			}
+		}
+	}
+	return n > api.MaxEvents
+}

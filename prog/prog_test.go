@@ -118,3 +118,32 @@ func TestOverLimit(t *testing.T) {
 		}
 	}
 }
+
+func TestOverEvents(t *testing.T) {
+	many := func(fences, barriers int) Thread {
+		t := Thread{Stmts: []Stmt{{Kind: Load}, {Kind: If}, {Kind: End}}}
+		for i := range fences {
+			t.Stmts = append(t.Stmts, Stmt{Kind: Fence, Order: api.AcqRel + i%2})
+		}
+		for range barriers {
+			t.Stmts = append(t.Stmts, Stmt{Kind: Barrier})
+		}
+		return t
+	}
+	for _, c := range []struct {
+		p    Program
+		over bool
+	}{
+		{Program{}, false},
+		{Program{[]Thread{many(50, 0)}}, false},
+		{Program{[]Thread{many(51, 0)}}, true},
+		{Program{[]Thread{many(0, 25)}}, false},
+		{Program{[]Thread{many(0, 26)}}, true},
+		{Program{[]Thread{many(20, 2), many(22, 2)}}, false},
+		{Program{[]Thread{many(20, 2), many(23, 2)}}, true},
+	} {
+		if over := c.p.OverEvents(); over != c.over {
+			t.Errorf("P11: %d threads: %v, want %v", len(c.p.Threads), over, c.over)
+		}
+	}
+}

@@ -124,6 +124,16 @@ func (r Relation) Closed() Relation {
 	return closed
 }
 
+// Leads tells whether something leads somewhere.
+func (r Relation) Leads() bool {
+	for i := range r.rows {
+		if r.rows[i] != 0 {
+			return true
+		}
+	}
+	return false
+}
+
 // Loops tells whether something leads to itself in one step.
 func (r Relation) Loops() bool {
 	for i := range r.rows {

@@ -75,6 +75,12 @@ func TestCircles(t *testing.T) {
 	}
 }
 
+func TestLeads(t *testing.T) {
+	if New(0).Leads() || New(64).Leads() || !of(3, 0, 2).Leads() || !of(64, 63, 0).Leads() || of(3, 0, 1).And(of(3, 1, 0)).Leads() {
+		t.Error("Leads")
+	}
+}
+
 func TestNothingBeyondTheRoom(t *testing.T) {
 	r := of(3, -1, 0, 0, -1, 3, 0, 0, 3, 64, 64)
 	want(t, "beyond", r, 3)

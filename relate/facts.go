@@ -16,6 +16,7 @@ type Facts struct {
 	Ahead   rel.Relation
 	Strong  rel.Relation
 	Gathers rel.Relation
+	Fences  rel.Relation // from each sc fence to those that are strong to it
 	hangs   rel.Relation
 	halves  rel.Relation // from a step's write to its read
 	sends   rel.Relation // from what may tell to the write by which it would
@@ -30,6 +31,7 @@ func FactsOf(events []play.Event) Facts {
 	f.Ahead = rel.New(n)
 	f.Strong = rel.New(n)
 	f.Gathers = rel.New(n)
+	f.Fences = rel.New(n)
 	f.hangs = rel.New(n)
 	f.halves = rel.New(n)
 	f.sends = rel.New(n)
@@ -50,6 +52,9 @@ func (f *Facts) pair(i int, a play.Event, k int, b play.Event) {
 	}
 	if i != k && areStrong(a, b) {
 		f.Strong.Add(i, k)
+		if a.IsSC() && b.IsSC() {
+			f.Fences.Add(i, k)
+		}
 	}
 	if gather(a, b) {
 		f.Gathers.Add(i, k)

@@ -22,6 +22,20 @@ func (f Facts) Behind(places []int) rel.Relation {
 	return behind
 }
 
+// FencesBehind leads from each sc fence to those behind it in their order that
+// are strong to it; places tells where each stands.
+func (f Facts) FencesBehind(places []int) rel.Relation {
+	behind := rel.New(len(f.Events))
+	for i, a := range places {
+		for k, b := range places {
+			if f.Fences.Has(i, k) && a < b {
+				behind.Add(i, k)
+			}
+		}
+	}
+	return behind
+}
+
 // Misses leads from each read to the writes behind the one that it reads.
 func (f Facts) Misses(reads rel.Relation, behind rel.Relation) rel.Relation {
 	return reads.Then(behind)

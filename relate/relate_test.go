@@ -264,6 +264,17 @@ func TestOrderOfWrites(t *testing.T) {
 	}
 }
 
+func TestOrderOfFences(t *testing.T) {
+	sc := func(thread, scope int) play.Event { return event(play.Fence, thread, thread%2, api.SC, scope) }
+	f := FactsOf(events(sc(0, 1), sc(0, 0), sc(1, 1), sc(2, 0), event(play.Fence, 1, 1, api.AcqRel, 1)))
+	strong := [][2]int{{3, 4}, {4, 3}, {3, 5}, {5, 3}, {3, 6}, {6, 3}, {4, 6}, {6, 4}}
+	wantPairs(t, "P5: sc fences that are strong to each other", f.Fences, 8, strong...)
+	none := play.None
+	wantPairs(t, "P12: in the order of events", f.FencesBehind([]int{none, none, none, 0, 1, 2, 3, none}), 8, [][2]int{{3, 4}, {3, 5}, {3, 6}, {4, 6}}...)
+	wantPairs(t, "P12: in another order", f.FencesBehind([]int{none, none, none, 2, 3, 0, 1, none}), 8, [][2]int{{3, 4}, {5, 3}, {6, 3}, {6, 4}}...)
+	wantPairs(t, "P12: of no places", f.FencesBehind(nil), 8)
+}
+
 func TestSplitsStep(t *testing.T) {
 	l := events(half(event(play.Read, 0, 0, api.Relaxed, 0)), half(event(play.Write, 0, 0, api.Relaxed, 0)), event(play.Write, 1, 1, api.Weak, 0), event(play.Read, 1, 1, api.Weak, 0), event(play.Write, 1, 1, api.Weak, 0))
 	f := FactsOf(l)

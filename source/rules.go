@@ -8,7 +8,6 @@ import (
 // candidate is a candidate but for the orders of its writes.
 type candidate struct {
 	facts  relate.Facts
-	fences rel.Relation
 	reads  rel.Relation
 	before rel.Relation
 }
@@ -40,5 +39,5 @@ func (c candidate) mayBe(places []int) bool {
 // fencesCircle tells whether there is a circle of sc fences.
 func (c candidate) fencesCircle(linked rel.Relation) bool {
 	over := c.before.Then(linked).Then(c.before)
-	return c.before.Or(over).And(c.fences).Circles()
+	return c.before.Or(over).And(c.facts.Fences).Circles()
 }

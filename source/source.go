@@ -2,10 +2,8 @@
 package source
 
 import (
-	"kernels/api"
 	"kernels/play"
 	"kernels/prog"
-	"kernels/rel"
 	"kernels/relate"
 )
 
@@ -30,7 +28,6 @@ func Outcomes(p prog.Program) ([][]int, bool) {
 // world goes through the candidates that have these events.
 func (found *answer) world(w play.World) {
 	facts := relate.FactsOf(w.Events)
-	fences := scFences(facts)
 	readings := w.Readings()
 	for readings.Next() {
 		reads := facts.Reads(readings.Reads())
@@ -38,7 +35,7 @@ func (found *answer) world(w play.World) {
 			continue
 		}
 		before := beforeOf(facts, reads)
-		found.orders(w, candidate{facts: facts, fences: fences, reads: reads, before: before})
+		found.orders(w, candidate{facts: facts, reads: reads, before: before})
 	}
 }
 
@@ -57,21 +54,4 @@ func (found *answer) orders(w play.World, c candidate) {
 			found.clash = c.facts.Clashes(c.before)
 		}
 	}
-}
-
-// scFences leads from each sc fence to those that are strong to it.
-func scFences(facts relate.Facts) rel.Relation {
-	fences := rel.New(len(facts.Events))
-	for i, a := range facts.Events {
-		for k, b := range facts.Events {
-			if isSC(a) && isSC(b) && facts.Strong.Has(i, k) {
-				fences.Add(i, k)
-			}
-		}
-	}
-	return fences
-}
-
-func isSC(e play.Event) bool {
-	return e.Kind == play.Fence && e.Order == api.SC
 }

@@ -42,7 +42,7 @@ func TestBefore(t *testing.T) {
 // refuses this.
 func TestNothingBeforeItself(t *testing.T) {
 	facts := relate.FactsOf([]play.Event{event(play.Fence, 0, api.AcqRel), event(play.Fence, 1, api.AcqRel)})
-	cand := candidate{facts: facts, fences: scFences(facts), reads: pairs(2), before: pairs(2, [2]int{0, 1})}
+	cand := candidate{facts: facts, reads: pairs(2), before: pairs(2, [2]int{0, 1})}
 	if !cand.mayBe([]int{play.None, play.None}) {
 		t.Error("P6: a fence before another may not be")
 	}
@@ -74,14 +74,14 @@ func TestFencesCircle(t *testing.T) {
 	} {
 		l[7].Scope = c.scope
 		facts := relate.FactsOf(l)
-		cand := candidate{facts: facts, fences: scFences(facts), before: facts.Ahead.Or(pairs(9, c.extra...))}
+		cand := candidate{facts: facts, before: facts.Ahead.Or(pairs(9, c.extra...))}
 		if got := cand.fencesCircle(pairs(9, c.link...)); got != c.want {
 			t.Errorf("P6: %s: circle %v, want %v", c.what, got, c.want)
 		}
 	}
 	l[1].Order = api.AcqRel
 	facts := relate.FactsOf(l)
-	cand := candidate{facts: facts, fences: scFences(facts), before: facts.Ahead}
+	cand := candidate{facts: facts, before: facts.Ahead}
 	if cand.fencesCircle(pairs(9, [2]int{2, 3}, [2]int{5, 0})) {
 		t.Error("P6: a circle of a fence that is not sc")
 	}

@@ -1,0 +1,85 @@
+package target
+
+import (
+	"kernels/play"
+	"kernels/rel"
+	"kernels/relate"
+)
+
+// candidate is a candidate but for the orders of its fences and writes.
+type candidate struct {
+	facts relate.Facts
+	rows  rel.Relation
+	reads rel.Relation
+}
+
+// rowsOf is 'ahead' of the reads and writes of each variable.
+func rowsOf(facts relate.Facts) rel.Relation {
+	rows := rel.New(len(facts.Events))
+	for i, a := range facts.Events {
+		for k, b := range facts.Events {
+			if facts.Ahead.Has(i, k) && reaches(a) && reaches(b) && a.Var == b.Var {
+				rows.Add(i, k)
+			}
+		}
+	}
+	return rows
+}
+
+func reaches(e play.Event) bool {
+	return e.Kind == play.Read || e.Kind == play.Write
+}
+
+// causes are what 'cause' is by each order of the fences that may be, as far
+// as the orders of writes are not asked: it does not hang on those.
+func (c candidate) causes(w play.World) []rel.Relation {
+	var all []rel.Relation
+	sees := c.facts.Sees(c.reads)
+	links := c.facts.Tells(sees).Or(c.facts.Gathers)
+	orders := w.FenceOrders()
+	for orders.Next() {
+		fences := c.facts.FencesBehind(orders.Places())
+		cause := c.cause(sees, links.Or(fences))
+		if c.mayCause(cause, fences) {
+			all = append(all, cause)
+		}
+	}
+	return all
+}
+
+// cause takes what a read sees, and the links that base is made of.
+func (c candidate) cause(sees rel.Relation, links rel.Relation) rel.Relation {
+	base := baseOf(c.facts.Ahead, links)
+	return base.Or(c.facts.Ahead).Or(sees.Turned().Then(base))
+}
+
+// baseOf leads along the links, each with what is ahead of where it begins
+// and behind where it ends.
+func baseOf(ahead rel.Relation, links rel.Relation) rel.Relation {
+	on := links.Or(links.Then(ahead))
+	return on.Or(ahead.Then(on)).Closed()
+}
+
+// mayCause tells whether no rule that asks for no order of writes bars the
+// candidate; fences leads to those behind in the order of fences.
+func (c candidate) mayCause(cause rel.Relation, fences rel.Relation) bool {
+	if cause.Loops() || fences.Then(cause).Loops() {
+		return false
+	}
+	return !c.reads.And(cause).Leads()
+}
+
+// mayStand tells whether no rule that asks for no cause bars the candidate.
+func (c candidate) mayStand(behind rel.Relation, misses rel.Relation) bool {
+	if c.facts.SplitsStep(misses, behind) {
+		return false
+	}
+	linked := c.facts.Communicates(c.reads, behind, misses)
+	return !c.rows.Or(linked.And(c.facts.Strong)).Circles()
+}
+
+// agrees tells whether no cause stands behind what it is a cause of, and none
+// is missed by it.
+func agrees(cause rel.Relation, behind rel.Relation, misses rel.Relation) bool {
+	return !behind.Or(misses).Then(cause).Loops()
+}
