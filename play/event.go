@@ -34,6 +34,11 @@ type Event struct {
 	Hangs  rel.Set // the reads that it hangs on
 }
 
+// IsAccess tells whether the event is a read or a write.
+func (e Event) IsAccess() bool {
+	return e.Kind == Read || e.Kind == Write
+}
+
 // IsSC tells whether the event is an sc fence.
 func (e Event) IsSC() bool {
 	return e.Kind == Fence && e.Order == api.SC

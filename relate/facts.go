@@ -17,6 +17,7 @@ type Facts struct {
 	Strong  rel.Relation
 	Gathers rel.Relation
 	Fences  rel.Relation // from each sc fence to those that are strong to it
+	Rows    rel.Relation // ahead, of the reads and writes of one variable
 	hangs   rel.Relation
 	halves  rel.Relation // from a step's write to its read
 	sends   rel.Relation // from what may tell to the write by which it would
@@ -32,6 +33,7 @@ func FactsOf(events []play.Event) Facts {
 	f.Strong = rel.New(n)
 	f.Gathers = rel.New(n)
 	f.Fences = rel.New(n)
+	f.Rows = rel.New(n)
 	f.hangs = rel.New(n)
 	f.halves = rel.New(n)
 	f.sends = rel.New(n)
@@ -49,6 +51,9 @@ func (f *Facts) pair(i int, a play.Event, k int, b play.Event) {
 	ahead := isAhead(i, a, k, b)
 	if ahead {
 		f.Ahead.Add(i, k)
+	}
+	if ahead && a.IsAccess() && b.IsAccess() && a.Var == b.Var {
+		f.Rows.Add(i, k)
 	}
 	if i != k && areStrong(a, b) {
 		f.Strong.Add(i, k)

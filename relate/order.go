@@ -41,7 +41,7 @@ func (f Facts) Misses(reads rel.Relation, behind rel.Relation) rel.Relation {
 	return reads.Then(behind)
 }
 
-// Communicates takes what Reads, Behind and Misses answer.
+// Communicates takes what is read, behind and missed.
 func (f Facts) Communicates(reads rel.Relation, behind rel.Relation, misses rel.Relation) rel.Relation {
 	return reads.Turned().Or(behind).Or(misses)
 }
@@ -73,5 +73,5 @@ func (f Facts) mayClash(i int, a play.Event, k int, b play.Event) bool {
 	if a.Kind != play.Write || i == k || f.Strong.Has(i, k) {
 		return false
 	}
-	return a.Var == b.Var && (b.Kind == play.Write || b.Kind == play.Read)
+	return a.Var == b.Var && b.IsAccess()
 }

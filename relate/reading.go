@@ -5,8 +5,8 @@ import (
 	"kernels/rel"
 )
 
-// Reads leads from each read to the write that it reads.
-func (f Facts) Reads(reads []int) rel.Relation {
+// reads leads from each read to the write that it reads.
+func (f Facts) reads(reads []int) rel.Relation {
 	r := rel.New(len(f.Events))
 	for i, w := range reads {
 		r.Add(i, w)
@@ -14,9 +14,9 @@ func (f Facts) Reads(reads []int) rel.Relation {
 	return r
 }
 
-// HangsOnItself tells whether something hangs on itself by way of 'hangs' and
+// hangsOnItself tells whether something hangs on itself by way of 'hangs' and
 // 'reads'.
-func (f Facts) HangsOnItself(reads rel.Relation) bool {
+func (f Facts) hangsOnItself(reads rel.Relation) bool {
 	return f.hangs.Or(reads).Circles()
 }
 

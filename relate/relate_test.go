@@ -6,6 +6,7 @@ import (
 
 	"kernels/api"
 	"kernels/play"
+	"kernels/prog"
 	"kernels/rel"
 )
 
@@ -43,7 +44,7 @@ func wantPairs(t *testing.T, what string, r rel.Relation, n int, pairs ...[2]int
 	}
 }
 
-// reading is what Reads makes of pairs of a read and a write.
+// reading is what reads makes of pairs of a read and a write.
 func reading(f Facts, pairs ...[2]int) rel.Relation {
 	reads := make([]int, len(f.Events))
 	for i := range reads {
@@ -52,7 +53,7 @@ func reading(f Facts, pairs ...[2]int) rel.Relation {
 	for _, p := range pairs {
 		reads[p[0]] = p[1]
 	}
-	return f.Reads(reads)
+	return f.reads(reads)
 }
 
 func TestAhead(t *testing.T) {
@@ -60,6 +61,13 @@ func TestAhead(t *testing.T) {
 	wantPairs(t, "P5: ahead", f.Ahead, 7, [][2]int{
 		{0, 3}, {0, 4}, {0, 5}, {0, 6}, {1, 3}, {1, 4}, {1, 5}, {1, 6}, {2, 3}, {2, 4}, {2, 5}, {2, 6},
 		{3, 4}, {3, 5}, {4, 5}}...)
+}
+
+func TestRows(t *testing.T) {
+	ld := event(play.Read, 0, 0, api.Weak, 0)
+	st := event(play.Write, 0, 0, api.Release, 0)
+	f := FactsOf(events(ld, event(play.Fence, 0, 0, api.SC, 0), at(1, st), event(play.Arrival, 0, 0, 0, 0), st, event(play.Read, 1, 1, api.Weak, 0)))
+	wantPairs(t, "P12: ahead, of one variable", f.Rows, 9, [][2]int{{0, 3}, {0, 7}, {0, 8}, {1, 5}, {3, 7}}...)
 }
 
 func TestStrong(t *testing.T) {
@@ -133,7 +141,7 @@ func TestHangsOnItself(t *testing.T) {
 		{events(ld, hanging(3, ld), hanging(4, st)), [][2]int{{3, 5}, {4, 0}}, true},
 	} {
 		f := FactsOf(c.l)
-		if got := f.HangsOnItself(reading(f, c.reads...)); got != c.want {
+		if got := f.hangsOnItself(reading(f, c.reads...)); got != c.want {
 			t.Errorf("P5: %+v reading %v: hangs on itself %v, want %v", c.l, c.reads, got, c.want)
 		}
 	}
@@ -330,6 +338,53 @@ func TestClashes(t *testing.T) {
 		}
 		if got := f.Clashes(before); got != c.want {
 			t.Errorf("P6: %s: clash %v, want %v", c.what, got, c.want)
+		}
+	}
+}
+
+// TestCandidates: each candidate comes once, but none in which something hangs
+// on itself. The threads hand on to each other what they read.
+func TestCandidates(t *testing.T) {
+	r0 := prog.Operand{IsReg: true}
+	hand := func(from, to, add int) prog.Thread {
+		return prog.Thread{Stmts: []prog.Stmt{
+			{Kind: prog.Load, Var: from, Order: api.Relaxed, Scope: api.Device},
+			{Kind: prog.Plus, Dest: 1, A: r0, B: prog.Operand{N: add}},
+			{Kind: prog.Store, Var: to, A: prog.Operand{IsReg: true, N: 1}, Order: api.Relaxed, Scope: api.Device},
+		}}
+	}
+	for _, c := range []struct {
+		p    prog.Program
+		want []string // the registers at the end
+	}{
+		{prog.Program{}, []string{""}},
+		{prog.Program{Threads: []prog.Thread{{}, {}}}, []string{"00000000"}},
+		{prog.Program{Threads: []prog.Thread{hand(0, 1, 1)}}, []string{"0100"}},
+		{prog.Program{Threads: []prog.Thread{hand(0, 1, 1), hand(1, 2, 1)}}, []string{"01000100", "01001200"}},
+		// Without that rule both could also read what the other wrote.
+		{prog.Program{Threads: []prog.Thread{hand(0, 1, 0), hand(1, 0, 0)}}, []string{"00000000", "00000000", "00000000"}},
+		{prog.Program{Threads: []prog.Thread{hand(0, 1, 0), hand(1, 0, 1)}}, []string{"00000100", "00000100", "11000100"}},
+	} {
+		var got []string
+		all := CandidatesOf(c.p)
+		for all.Next() {
+			s := ""
+			for _, n := range all.World.Regs {
+				s += string("0123"[n])
+			}
+			got = append(got, s)
+			if len(all.Facts.Events) != len(all.World.Events) {
+				t.Errorf("P4: facts of %d events, %d there are", len(all.Facts.Events), len(all.World.Events))
+			}
+			for i, e := range all.World.Events {
+				if (all.Reads.Of(i) != 0) != (e.Kind == play.Read) {
+					t.Errorf("P4: event %d, of kind %d, reads %b", i, e.Kind, all.Reads.Of(i))
+				}
+			}
+		}
+		slices.Sort(got)
+		if !slices.Equal(got, c.want) {
+			t.Errorf("P4: %v: %v, want %v", c.p, got, c.want)
 		}
 	}
 }

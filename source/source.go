@@ -17,26 +17,12 @@ type answer struct {
 // and whether there is a clash in one of these candidates.
 func Outcomes(p prog.Program) ([][]int, bool) {
 	var found answer
-	worlds := play.WorldsOf(p)
-	for worlds.Next() {
-		world := worlds.World()
-		found.world(world)
+	all := relate.CandidatesOf(p)
+	for all.Next() {
+		before := beforeOf(all.Facts, all.Reads)
+		found.orders(all.World, candidate{facts: all.Facts, reads: all.Reads, before: before})
 	}
 	return found.outcomes.Rows(), found.clash
-}
-
-// world goes through the candidates that have these events.
-func (found *answer) world(w play.World) {
-	facts := relate.FactsOf(w.Events)
-	readings := w.Readings()
-	for readings.Next() {
-		reads := facts.Reads(readings.Reads())
-		if facts.HangsOnItself(reads) {
-			continue
-		}
-		before := beforeOf(facts, reads)
-		found.orders(w, candidate{facts: facts, reads: reads, before: before})
-	}
 }
 
 // orders goes through the orders of writes; what a clash is does not hang on

@@ -9,25 +9,7 @@ import (
 // candidate is a candidate but for the orders of its fences and writes.
 type candidate struct {
 	facts relate.Facts
-	rows  rel.Relation
 	reads rel.Relation
-}
-
-// rowsOf is 'ahead' of the reads and writes of each variable.
-func rowsOf(facts relate.Facts) rel.Relation {
-	rows := rel.New(len(facts.Events))
-	for i, a := range facts.Events {
-		for k, b := range facts.Events {
-			if facts.Ahead.Has(i, k) && reaches(a) && reaches(b) && a.Var == b.Var {
-				rows.Add(i, k)
-			}
-		}
-	}
-	return rows
-}
-
-func reaches(e play.Event) bool {
-	return e.Kind == play.Read || e.Kind == play.Write
 }
 
 // causes are what 'cause' is by each order of the fences that may be, as far
@@ -75,11 +57,11 @@ func (c candidate) mayStand(behind rel.Relation, misses rel.Relation) bool {
 		return false
 	}
 	linked := c.facts.Communicates(c.reads, behind, misses)
-	return !c.rows.Or(linked.And(c.facts.Strong)).Circles()
+	return !c.facts.Rows.Or(linked.And(c.facts.Strong)).Circles()
 }
 
-// agrees tells whether no cause stands behind what it is a cause of, and none
-// is missed by it.
+// agrees tells whether no write stands behind one that it is a cause of, and
+// no read misses a cause of it.
 func agrees(cause rel.Relation, behind rel.Relation, misses rel.Relation) bool {
 	return !behind.Or(misses).Then(cause).Loops()
 }

@@ -19,30 +19,15 @@ type answer struct {
 // and whether there is a clash in one of these candidates.
 func Outcomes(p prog.Program) ([][]int, bool) {
 	var found answer
-	worlds := play.WorldsOf(p)
-	for worlds.Next() {
-		world := worlds.World()
-		found.world(world)
+	all := relate.CandidatesOf(p)
+	for all.Next() {
+		c := candidate{facts: all.Facts, reads: all.Reads}
+		causes := c.causes(all.World)
+		if len(causes) > 0 {
+			found.orders(all.World, c, causes)
+		}
 	}
 	return found.outcomes.Rows(), found.clash
-}
-
-// world goes through the candidates that have these events.
-func (found *answer) world(w play.World) {
-	facts := relate.FactsOf(w.Events)
-	rows := rowsOf(facts)
-	readings := w.Readings()
-	for readings.Next() {
-		reads := facts.Reads(readings.Reads())
-		if facts.HangsOnItself(reads) {
-			continue
-		}
-		c := candidate{facts: facts, rows: rows, reads: reads}
-		causes := c.causes(w)
-		if len(causes) > 0 {
-			found.orders(w, c, causes)
-		}
-	}
 }
 
 // orders goes through the orders of writes, with each cause that an order of

@@ -33,14 +33,6 @@ func wantRows(t *testing.T, what string, r rel.Relation, rows ...string) {
 	}
 }
 
-func TestRows(t *testing.T) {
-	y := event(play.Write, 0, api.Weak)
-	y.Var = 1
-	first := event(play.Write, play.None, 0)
-	facts := relate.FactsOf([]play.Event{first, event(play.Read, 0, api.Weak), event(play.Fence, 0, api.SC), y, event(play.Write, 0, api.Release), event(play.Read, 1, api.Weak), event(play.Arrival, 1, 0)})
-	wantRows(t, "rows", rowsOf(facts), "0100110", "0000100", "0000000", "0000000", "0000000", "0000000", "0000000")
-}
-
 // TestBase: two threads, and a link from event 1 of the first to event 4 of
 // the second.
 func TestBase(t *testing.T) {
@@ -132,7 +124,7 @@ func TestMayStand(t *testing.T) {
 		{"backwards, not strong", api.Weak, [][2]int{{1, 0}, {2, 3}}, [][2]int{{3, 0}}, true},
 	} {
 		facts := relate.FactsOf([]play.Event{event(play.Write, 0, c.order), event(play.Read, 1, api.Relaxed), event(play.Read, 1, api.Relaxed), event(play.Write, 2, api.Relaxed)})
-		cand := candidate{facts: facts, rows: rowsOf(facts), reads: pairs(4, c.reads...)}
+		cand := candidate{facts: facts, reads: pairs(4, c.reads...)}
 		behind := pairs(4, c.behind...)
 		if got := cand.mayStand(behind, facts.Misses(cand.reads, behind)); got != c.want {
 			t.Errorf("P12: %s: %v, want %v", c.what, got, c.want)
