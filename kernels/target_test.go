@@ -139,8 +139,12 @@ func TestRulesOfTheTarget(t *testing.T) {
 	}
 }
 
-// TestRulesThatHoldTogether: what more than one rule bars. That nothing is its
-// own cause bars nothing that the other rules would let be.
+// TestRulesThatHoldTogether: what more than one rule bars. Two rules have no
+// text that they alone bar, so that only the tests of package target show that
+// they are there. What is its own cause by no order of the fences, the other
+// rules bar too. What is its own cause by such an order, and with it a fence
+// that stands ahead of a cause of it, has more causes than with the fences put
+// in the order of their causes, which then lets the same come out.
 func TestRulesThatHoldTogether(t *testing.T) {
 	asksOfTarget(t, "P12", []want{
 		{"its own cause", in0 + "ld.acquire.gpu %r0, [y]/st.release.gpu [x], 1/" + in1 + "ld.acquire.gpu %r0, [x]/st.release.gpu [y], 1/", bothOne, false, false},
